@@ -1,0 +1,71 @@
+// Package kit chains operations on polynomials. A Kit keeps the first error, after which every result is 0; so a formula can be written down as it is, and the error be looked at once.
+package kit
+
+import (
+	"arithmancy/api"
+	"arithmancy/large"
+	"arithmancy/poly"
+)
+
+// Kit makes polynomials with Vars variables.
+type Kit struct {
+	Vars int
+	Err  api.Errno
+}
+
+// Keep takes over the result of an operation and its error.
+func (k *Kit) Keep(p api.Poly, e api.Errno) api.Poly {
+	if k.Err == api.OK {
+		k.Err = e
+	}
+	if k.Err != api.OK {
+		return api.Poly{}
+	}
+	return p
+}
+
+// Int returns n as a polynomial.
+func (k *Kit) Int(n int) api.Poly {
+	return k.Keep(poly.Const(k.Vars, large.Of(n)))
+}
+
+// Var returns the variable i.
+func (k *Kit) Var(i int) api.Poly {
+	return k.Keep(poly.Var(k.Vars, i))
+}
+
+// Widen returns a polynomial with few variables as one of the kit's; ErrSize is kept, if there are too many.
+func (k *Kit) Widen(p api.Poly) api.Poly {
+	if k.Vars > api.MaxVars {
+		return k.Keep(api.Poly{}, api.ErrSize)
+	}
+	return k.Keep(poly.Widen(p, k.Vars))
+}
+
+// Add returns the sum of polynomials, 0 if there are none.
+func (k *Kit) Add(list ...api.Poly) api.Poly {
+	return k.fold(poly.Add, k.Int(0), list)
+}
+
+// Sub returns p - q.
+func (k *Kit) Sub(p, q api.Poly) api.Poly {
+	return k.fold(poly.Sub, p, []api.Poly{q})
+}
+
+// Mul returns the product of polynomials, 1 if there are none.
+func (k *Kit) Mul(list ...api.Poly) api.Poly {
+	return k.fold(poly.Mul, k.Int(1), list)
+}
+
+// fold joins polynomials to p, one after the other.
+func (k *Kit) fold(join func(p, q api.Poly) (api.Poly, api.Errno), p api.Poly, list []api.Poly) api.Poly {
+	for _, q := range list {
+		if k.Err == api.OK {
+			p = k.Keep(join(p, q))
+		}
+	}
+	if k.Err != api.OK {
+		return api.Poly{}
+	}
+	return p
+}

@@ -1,0 +1,33 @@
+package kit
+
+import (
+	"testing"
+
+	"arithmancy/api"
+	"arithmancy/poly"
+)
+
+func TestChain(t *testing.T) {
+	k := &Kit{Vars: 2}
+	p := k.Sub(k.Mul(k.Add(k.Var(0), k.Int(1)), k.Var(1)), k.Int(3))
+	if s, _ := poly.Text(p); s != "x0*x1+x1-3" || k.Err != api.OK {
+		t.Error(s, k.Err)
+	}
+	one, _ := poly.Var(1, 0)
+	if s, _ := poly.Text(k.Add(k.Widen(one), k.Mul())); s != "x0+1" || k.Err != api.OK {
+		t.Error(s, k.Err)
+	}
+}
+
+// The first error stays, and every result after it is 0.
+func TestFirstError(t *testing.T) {
+	k := &Kit{Vars: 2}
+	k.Var(2)
+	if p := k.Add(k.Var(0), k.Int(1)); k.Err != api.ErrArg || p.Vars != 0 || len(p.Terms) > 0 {
+		t.Error(p, k.Err)
+	}
+	wide := &Kit{Vars: api.MaxVars + 1}
+	if wide.Widen(api.Poly{}); wide.Err != api.ErrSize {
+		t.Error(wide.Err)
+	}
+}
