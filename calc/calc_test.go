@@ -52,3 +52,24 @@ func TestHelpers(t *testing.T) {
 		t.Error("lists")
 	}
 }
+
+// A product is too large to be a number, but what is made of it is not.
+func TestWide(t *testing.T) {
+	var c Calc
+	most := c.Power(large.Of(2), 32*api.MaxWords-1)
+	small := large.Of(-12)
+	w := c.Dot([]api.Int{small, large.Of(1)}, []api.Int{most, large.Of(24)})
+	if c.IsZeroWide(w) || !c.IsZeroWide(c.Difference(w, w)) {
+		t.Error("IsZeroWide")
+	}
+	a, ok := c.Divided(w, large.Of(-24))
+	if want := c.Sub(c.Power(large.Of(2), 32*api.MaxWords-2), large.Of(1)); !ok || !Equal(a, want) || c.Err != api.OK {
+		t.Error(ok, c.Err)
+	}
+	if _, ok := c.Divided(w, large.Of(5)); ok || c.Err != api.OK {
+		t.Error(ok, c.Err)
+	}
+	if c.Divided(w, large.Of(3)); c.Err != api.ErrSize {
+		t.Error(c.Err)
+	}
+}

@@ -43,8 +43,8 @@ func solves(a [][]api.Int, b, x []api.Int) bool {
 	}
 	c := &calc.Calc{}
 	for i, row := range a {
-		value := wideDot(c, row, x)
-		if !value.less(c, wide{low: b[i]}).isZero(c) {
+		one := []api.Int{large.Of(1)}
+		if !c.IsZeroWide(c.Difference(c.Dot(row, x), c.Dot(one, b[i:i+1]))) {
 			return false
 		}
 	}
@@ -67,14 +67,14 @@ func multiples(s api.Lattice, x []api.Int) ([]api.Int, api.Errno) {
 	}
 	list := make([]api.Int, len(s.Basis))
 	for i, j := range m.pivots {
-		rest := wideDot(c, m.right(i), x).less(c, wideDot(c, m.right(i), s.X))
+		rest := c.Difference(c.Dot(m.right(i), x), c.Dot(m.right(i), s.X))
 		if j < 0 {
-			if !rest.isZero(c) && c.Err == api.OK {
+			if !c.IsZeroWide(rest) && c.Err == api.OK {
 				return nil, api.ErrNone
 			}
 			continue
 		}
-		q, ok := rest.divided(c, m.d)
+		q, ok := c.Divided(rest, m.d)
 		if !ok && c.Err == api.OK {
 			return nil, api.ErrNone
 		}
