@@ -2,7 +2,10 @@
 package kit
 
 import (
+	"slices"
+
 	"arithmancy/api"
+	"arithmancy/calc"
 	"arithmancy/large"
 	"arithmancy/poly"
 )
@@ -68,4 +71,26 @@ func (k *Kit) fold(join func(p, q api.Poly) (api.Poly, api.Errno), p api.Poly, l
 		return api.Poly{}
 	}
 	return p
+}
+
+// Place returns p, which is valid, with the variable at[i] of so many in the place of the variable i; at is rising.
+func Place(p api.Poly, vars int, at []int) api.Poly {
+	q := api.Poly{Vars: vars}
+	for _, t := range p.Terms {
+		exps := make([]int, vars)
+		for i, e := range t.Exps {
+			exps[at[i]] = e
+		}
+		q.Terms = append(q.Terms, api.Term{Coef: calc.Copy(t.Coef), Exps: exps})
+	}
+	return q
+}
+
+// Copy returns the same polynomial in new memory.
+func Copy(p api.Poly) api.Poly {
+	q := api.Poly{Vars: p.Vars}
+	for _, t := range p.Terms {
+		q.Terms = append(q.Terms, api.Term{Coef: calc.Copy(t.Coef), Exps: slices.Clone(t.Exps)})
+	}
+	return q
 }

@@ -31,3 +31,17 @@ func TestFirstError(t *testing.T) {
 		t.Error(wide.Err)
 	}
 }
+
+func TestPlaceAndCopy(t *testing.T) {
+	p, _ := poly.Parse("x0^2*x1-x0+x1-3", 2)
+	q := Place(p, 5, []int{1, 4})
+	if s, e := poly.Text(q); s != "x1^2*x4-x1+x4-3" || e != api.OK || q.Vars != 5 {
+		t.Error(s, e)
+	}
+	r := Copy(p)
+	r.Terms[0].Coef.Words[0], r.Terms[1].Exps[0] = 7, 3
+	q.Terms[0].Coef.Words[0] = 7
+	if s, _ := poly.Text(p); s != "x0^2*x1-x0+x1-3" {
+		t.Error(s)
+	}
+}
