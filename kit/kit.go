@@ -94,3 +94,35 @@ func Copy(p api.Poly) api.Poly {
 	}
 	return q
 }
+
+// Link returns a link of valid polynomials in the variables of a system, with those variables that occur in them.
+func Link(kind int, polys ...api.Poly) api.Link {
+	l := api.Link{Kind: kind}
+	for v := range polys[0].Vars {
+		if slices.ContainsFunc(polys, func(p api.Poly) bool { return occurs(p, v) }) {
+			l.Vars = append(l.Vars, v)
+		}
+	}
+	for _, p := range polys {
+		l.Polys = append(l.Polys, pick(p, l.Vars))
+	}
+	return l
+}
+
+// occurs reports whether a variable occurs in a polynomial.
+func occurs(p api.Poly, v int) bool {
+	return slices.ContainsFunc(p.Terms, func(t api.Term) bool { return t.Exps[v] > 0 })
+}
+
+// pick returns a polynomial with only some of its variables; the others do not occur.
+func pick(p api.Poly, vars []int) api.Poly {
+	q := api.Poly{Vars: len(vars)}
+	for _, t := range p.Terms {
+		exps := make([]int, len(vars))
+		for i, v := range vars {
+			exps[i] = t.Exps[v]
+		}
+		q.Terms = append(q.Terms, api.Term{Coef: calc.Copy(t.Coef), Exps: exps})
+	}
+	return q
+}

@@ -45,3 +45,16 @@ func TestPlaceAndCopy(t *testing.T) {
 		t.Error(s)
 	}
 }
+
+func TestLink(t *testing.T) {
+	k := &Kit{Vars: 30}
+	l := Link(api.LinkUnder, k.Mul(k.Var(3), k.Var(29)), k.Add(k.Var(7), k.Int(2)))
+	first, _ := poly.Text(l.Polys[0])
+	second, _ := poly.Text(l.Polys[1])
+	if l.Kind != api.LinkUnder || len(l.Vars) != 3 || l.Vars[0] != 3 || l.Vars[1] != 7 || l.Vars[2] != 29 || first != "x0*x2" || second != "x1+2" {
+		t.Error(l.Vars, first, second)
+	}
+	if l := Link(api.LinkEq, k.Int(0)); len(l.Vars) > 0 || l.Polys[0].Vars != 0 {
+		t.Error(l)
+	}
+}
