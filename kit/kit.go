@@ -97,16 +97,22 @@ func Copy(p api.Poly) api.Poly {
 
 // Link returns a link of valid polynomials in the variables of a system, with those variables that occur in them.
 func Link(kind int, polys ...api.Poly) api.Link {
-	l := api.Link{Kind: kind}
-	for v := range polys[0].Vars {
-		if slices.ContainsFunc(polys, func(p api.Poly) bool { return occurs(p, v) }) {
-			l.Vars = append(l.Vars, v)
-		}
-	}
+	l := api.Link{Kind: kind, Vars: Used(polys...)}
 	for _, p := range polys {
-		l.Polys = append(l.Polys, pick(p, l.Vars))
+		l.Polys = append(l.Polys, Pick(p, l.Vars))
 	}
 	return l
+}
+
+// Used returns the variables that occur in polynomials with the same variables, of which there is at least one.
+func Used(polys ...api.Poly) []int {
+	var vars []int
+	for v := range polys[0].Vars {
+		if slices.ContainsFunc(polys, func(p api.Poly) bool { return occurs(p, v) }) {
+			vars = append(vars, v)
+		}
+	}
+	return vars
 }
 
 // occurs reports whether a variable occurs in a polynomial.
@@ -114,8 +120,8 @@ func occurs(p api.Poly, v int) bool {
 	return slices.ContainsFunc(p.Terms, func(t api.Term) bool { return t.Exps[v] > 0 })
 }
 
-// pick returns a polynomial with only some of its variables; the others do not occur.
-func pick(p api.Poly, vars []int) api.Poly {
+// Pick returns a polynomial with only some of its variables; the others do not occur.
+func Pick(p api.Poly, vars []int) api.Poly {
 	q := api.Poly{Vars: len(vars)}
 	for _, t := range p.Terms {
 		exps := make([]int, len(vars))
