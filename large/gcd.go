@@ -36,7 +36,7 @@ func euclid(a, b []uint32) ([]uint32, api.Int) {
 	for len(second) > 0 {
 		if s := stepsAtOnce(first, second); s.v0 != 0 {
 			first, second = s.rests(first, second)
-			one, two = mixed(one, two, s.u0, s.v0), mixed(one, two, s.u1, s.v1)
+			one, two = s.factors(one, two)
 			minus = minus != s.odd
 			continue
 		}
@@ -85,9 +85,14 @@ func firstDigits(a []uint32, by int) uint64 {
 // rests does the steps.
 func (s steps) rests(a, b []uint32) ([]uint32, []uint32) {
 	if s.odd {
-		return unmixed(b, a, s.v0, s.u0), unmixed(a, b, s.u1, s.v1)
+		return mixed(b, a, s.v0, s.u0, bits.Sub32), mixed(a, b, s.u1, s.v1, bits.Sub32)
 	}
-	return unmixed(a, b, s.u0, s.v0), unmixed(b, a, s.v1, s.u1)
+	return mixed(a, b, s.u0, s.v0, bits.Sub32), mixed(b, a, s.v1, s.u1, bits.Sub32)
+}
+
+// factors does the steps with the factors of a that belong to a and b, whose signs are opposite.
+func (s steps) factors(one, two []uint32) ([]uint32, []uint32) {
+	return mixed(one, two, s.u0, s.v0, bits.Add32), mixed(one, two, s.u1, s.v1, bits.Add32)
 }
 
 // at returns a word, or 0 behind the last one.
@@ -98,26 +103,14 @@ func at(a []uint32, i int) uint64 {
 	return 0
 }
 
-// mixed returns u a + v b; u and v are words.
-func mixed(a, b []uint32, u, v uint64) []uint32 {
+// mixed returns u a + v b for bits.Add32, u a - v b, which must not be negative, for bits.Sub32; u and v are words.
+func mixed(a, b []uint32, u, v uint64, join func(x, y, carry uint32) (uint32, uint32)) []uint32 {
 	c := make([]uint32, max(len(a), len(b))+2)
 	over, more, carry := uint64(0), uint64(0), uint32(0)
 	for i := range c {
 		s, t := u*at(a, i)+over, v*at(b, i)+more
 		over, more = s>>wordBits, t>>wordBits
-		c[i], carry = bits.Add32(uint32(s), uint32(t), carry)
-	}
-	return trim(c)
-}
-
-// unmixed returns u a - v b, which is not negative; u and v are words.
-func unmixed(a, b []uint32, u, v uint64) []uint32 {
-	c := make([]uint32, max(len(a), len(b))+1)
-	over, more, borrow := uint64(0), uint64(0), uint32(0)
-	for i := range c {
-		s, t := u*at(a, i)+over, v*at(b, i)+more
-		over, more = s>>wordBits, t>>wordBits
-		c[i], borrow = bits.Sub32(uint32(s), uint32(t), borrow)
+		c[i], carry = join(uint32(s), uint32(t), carry)
 	}
 	return trim(c)
 }

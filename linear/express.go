@@ -68,20 +68,18 @@ func multiples(s api.Lattice, x []api.Int) ([]api.Int, api.Errno) {
 	list := make([]api.Int, len(s.Basis))
 	for i, j := range m.pivots {
 		rest := c.Difference(c.Dot(m.right(i), x), c.Dot(m.right(i), s.X))
+		ok := false
 		if j < 0 {
-			if !c.IsZeroWide(rest) && c.Err == api.OK {
-				return nil, api.ErrNone
-			}
-			continue
+			ok = c.IsZeroWide(rest)
+		} else {
+			list[j], ok = c.Divided(rest, m.d)
 		}
-		q, ok := c.Divided(rest, m.d)
-		if !ok && c.Err == api.OK {
+		if c.Err != api.OK {
+			return nil, c.Err
+		}
+		if !ok {
 			return nil, api.ErrNone
 		}
-		list[j] = q
-	}
-	if c.Err != api.OK {
-		return nil, c.Err
 	}
 	return list, api.OK
 }

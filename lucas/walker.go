@@ -76,6 +76,11 @@ func (w *walker) odd(low, high api.Int) api.Int {
 	return w.each(w.Mul(w.Sub(high, low), w.Add(high, low)))
 }
 
+// chiOf returns chi(n) of psi(n) and psi(n + 1).
+func (w *walker) chiOf(low, high api.Int) api.Int {
+	return w.each(w.Sub(high, w.Mul(w.a, low)))
+}
+
 // psi returns psi(n), for n from 2 on. No number in between is greater than it: so an error means that it is too large.
 func (w *walker) psi(n int) api.Int {
 	low, high := w.at(n / 2)
@@ -88,7 +93,7 @@ func (w *walker) psi(n int) api.Int {
 // chi returns chi(n), for n from 2 on: chi(2m) = 2 chi(m)^2 - 1, and chi(2m + 1) = 2 chi(m) chi(m + 1) - a. No number in between is greater than it, as the doubling comes last.
 func (w *walker) chi(n int) api.Int {
 	low, high := w.at(n / 2)
-	one := w.Sub(high, w.Mul(w.a, low))
+	one := w.chiOf(low, high)
 	two, less := one, large.Of(1)
 	if n%2 == 1 {
 		two, less = w.Sub(w.Mul(w.a, high), low), w.a
