@@ -1,7 +1,10 @@
 package calc
 
 import (
+	"encoding/binary"
+	"math/big"
 	"reflect"
+	"slices"
 	"testing"
 
 	"arithmancy/api"
@@ -71,5 +74,64 @@ func TestWide(t *testing.T) {
 	}
 	if c.Divided(w, large.Of(3)); c.Err != api.ErrSize {
 		t.Error(c.Err)
+	}
+}
+
+// toBig returns a number as one of another library.
+func toBig(a api.Int) *big.Int {
+	var bytes []byte
+	for _, w := range slices.Backward(a.Words) {
+		bytes = binary.BigEndian.AppendUint32(bytes, w)
+	}
+	x := new(big.Int).SetBytes(bytes)
+	if a.Neg {
+		x.Neg(x)
+	}
+	return x
+}
+
+// ends returns numbers at the ends of what is valid, and of what a half holds, with both signs.
+func ends() []api.Int {
+	var c Calc
+	var list []api.Int
+	for _, n := range []int{0, 1, halfBits, 2*halfBits - 1} {
+		p := c.Power(large.Of(2), n)
+		list = append(list, p, c.Add(p, c.Sub(p, large.Of(1))), Negative(p), Negative(c.Add(p, c.Sub(p, large.Of(1)))))
+	}
+	return append(list, api.Int{}, c.Power(large.Of(2), halfBits/2))
+}
+
+// Integers at the ends of what is valid are neither too long for a sum of products, nor for its quotient.
+func TestWideAtTheEnds(t *testing.T) {
+	limit := new(big.Int).Lsh(big.NewInt(1), 2*halfBits)
+	for _, a := range ends() {
+		for _, b := range ends() {
+			for _, n := range []int{1, -1, 2, -3} {
+				var c Calc
+				w := c.Difference(c.Dot([]api.Int{large.Of(n)}, []api.Int{a}), c.Dot([]api.Int{large.Of(-n)}, []api.Int{b}))
+				want := new(big.Int).Add(toBig(a), toBig(b))
+				want.Mul(want, big.NewInt(int64(n)))
+				if c.IsZeroWide(w) != (want.Sign() == 0) || c.Err != api.OK {
+					t.Fatal(large.Bits(a), large.Bits(b), n, c.Err)
+				}
+				for _, d := range []int{1, -1, 2, 3, -3, 4} {
+					var c Calc
+					q, ok := c.Divided(w, large.Of(d))
+					quotient, rest := new(big.Int).QuoRem(want, big.NewInt(int64(d)), new(big.Int))
+					switch {
+					case rest.Sign() != 0:
+						if ok || c.Err != api.OK {
+							t.Fatal(large.Bits(a), large.Bits(b), n, d, ok, c.Err)
+						}
+					case quotient.CmpAbs(limit) >= 0:
+						if c.Err != api.ErrSize {
+							t.Fatal(large.Bits(a), large.Bits(b), n, d, c.Err)
+						}
+					case !ok || c.Err != api.OK || toBig(q).Cmp(quotient) != 0:
+						t.Fatal(large.Bits(a), large.Bits(b), n, d, ok, c.Err)
+					}
+				}
+			}
+		}
 	}
 }

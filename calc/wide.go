@@ -13,10 +13,15 @@ type Wide struct {
 	high, low api.Int
 }
 
-// split returns a number in two halves, the lower one of which is not negative.
+// split returns a number in two halves with its sign. (If they were rounded down, the higher one of a negative number might, shifted back, be too long.)
 func (c *Calc) split(a api.Int) Wide {
-	high := c.shift(a, -halfBits)
-	return Wide{high, c.Sub(a, c.shift(high, halfBits))}
+	size := Size(a)
+	high := c.shift(size, -halfBits)
+	w := Wide{high, c.Sub(size, c.shift(high, halfBits))}
+	if a.Neg {
+		return Wide{Negative(w.high), Negative(w.low)}
+	}
+	return w
 }
 
 // shift returns a times 2^n.
@@ -38,10 +43,18 @@ func (c *Calc) Difference(w, v Wide) Wide {
 	return Wide{c.Sub(w.high, v.high), c.Sub(w.low, v.low)}
 }
 
-// carried returns the same integer with a lower half that is one.
+// carried returns the same integer with a lower half that is one. If neither half is 0, both have the same sign.
 func (c *Calc) carried(w Wide) Wide {
 	v := c.split(w.low)
-	return Wide{c.Add(w.high, v.high), v.low}
+	v.high = c.Add(w.high, v.high)
+	if IsZero(v.high) || IsZero(v.low) || v.high.Neg == v.low.Neg {
+		return v
+	}
+	one := large.Of(1)
+	if v.high.Neg {
+		one = large.Of(-1)
+	}
+	return Wide{c.Sub(v.high, one), c.Add(v.low, c.shift(one, halfBits))}
 }
 
 // IsZeroWide reports whether w is 0.
@@ -50,13 +63,17 @@ func (c *Calc) IsZeroWide(w Wide) bool {
 	return IsZero(v.high) && IsZero(v.low)
 }
 
-// Divided returns w divided by d, and whether there is no rest.
+// Divided returns w divided by d, and whether there is no rest. It divides without signs; so no part of the quotient is longer than the whole.
 func (c *Calc) Divided(w Wide, d api.Int) (api.Int, bool) {
-	v := c.carried(w)
-	high, rest := c.Quotient(v.high, d), c.Rest(v.high, d)
-	left := c.Add(c.shift(rest, halfBits), v.low)
-	if !IsZero(c.Rest(left, d)) {
+	v, by := c.carried(w), Size(d)
+	high, low := Size(v.high), Size(v.low)
+	left := c.Add(c.shift(c.Rest(high, by), halfBits), low)
+	if !IsZero(c.Rest(left, by)) {
 		return api.Int{}, false
 	}
-	return c.Add(c.shift(high, halfBits), c.Quotient(left, d)), true
+	q := c.Add(c.shift(c.Quotient(high, by), halfBits), c.Quotient(left, by))
+	if (v.high.Neg || v.low.Neg) != d.Neg {
+		q = Negative(q)
+	}
+	return q, true
 }

@@ -243,6 +243,42 @@ func TestZeroOfLargeValues(t *testing.T) {
 	}
 }
 
+// P6.3: the longest coefficients, with both signs.
+func TestZeroOfLongestCoefficients(t *testing.T) {
+	longest := api.Int{Words: slices.Repeat([]uint32{math.MaxUint32}, api.MaxWords)}
+	other := api.Int{Neg: true, Words: longest.Words}
+	half, _ := large.Shift(other, -16*api.MaxWords)
+	for _, l := range []struct {
+		text  string
+		coefs []api.Int
+		want  []api.Int
+		e     api.Errno
+	}{
+		{"x0", []api.Int{longest}, []api.Int{{}}, api.OK},
+		{"x0^2-x0", []api.Int{longest, other}, []api.Int{{}}, api.OK},
+		{"x0-1", []api.Int{longest, other}, []api.Int{large.Of(1)}, api.OK},
+		{"x0+1", []api.Int{longest, longest}, nil, api.ErrNone},
+		{"x0^2-3*x0+1", []api.Int{longest, other, large.Of(1)}, nil, api.ErrNone},
+		{"x0-1", []api.Int{half, longest}, nil, api.ErrNone},
+		// All of them together are longer than a number.
+		{"x0^4-x0^3-x0^2-x0", []api.Int{longest, other, other, other}, []api.Int{{}}, api.OK},
+		{"x0^3-x0^2-x0-1", []api.Int{longest, other, other, other}, nil, api.ErrNone},
+		{"x0^3-x0^2-x0-1", []api.Int{longest, other, other, large.Of(0)}, nil, api.ErrForm},
+		{"-x0^120+1", []api.Int{other, longest}, []api.Int{large.Of(1)}, api.OK},
+	} {
+		for _, neg := range []bool{false, true} {
+			p := parsed(t, l.text, 1)
+			for i, c := range l.coefs {
+				p.Terms[i].Coef = api.Int{Neg: c.Neg != neg && len(c.Words) > 0, Words: c.Words}
+			}
+			xs, e := Zero(p, 3)
+			if e != l.e || len(xs) != len(l.want) || len(xs) > 0 && !reflect.DeepEqual(xs, l.want) {
+				t.Error(l.text, neg, xs, e)
+			}
+		}
+	}
+}
+
 // P6.4: rests.
 func TestRests(t *testing.T) {
 	r := rand.New(rand.NewSource(4))
