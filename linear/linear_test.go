@@ -354,6 +354,58 @@ func TestExpressWide(t *testing.T) {
 	}
 }
 
+// turned returns numbers, or their opposites.
+func turned(list []api.Int, opposite bool) []api.Int {
+	var out []api.Int
+	for _, a := range list {
+		if opposite {
+			a = calc.Negative(a)
+		}
+		out = append(out, a)
+	}
+	return out
+}
+
+// Numbers of the greatest length, with both signs, are solutions like others.
+func TestExpressLongest(t *testing.T) {
+	c := &calc.Calc{}
+	longest := c.Add(power(131071), c.Sub(power(131071), large.Of(1)))
+	other := calc.Negative(longest)
+	for _, l := range []struct {
+		a, b     []api.Int
+		x, basis []api.Int
+		point    []api.Int
+		want     []api.Int
+		e        api.Errno
+	}{
+		{list(0), list(0), list(0), list(1), []api.Int{longest}, []api.Int{longest}, api.OK},
+		{list(0), list(0), []api.Int{longest}, list(1), []api.Int{longest}, list(0), api.OK},
+		{list(0), list(0), list(0), []api.Int{longest}, list(0), list(0), api.OK},
+		{list(0), list(0), list(0), []api.Int{longest}, []api.Int{longest}, list(1), api.OK},
+		{list(0), list(0), list(0), []api.Int{longest}, []api.Int{other}, list(-1), api.OK},
+		{list(0), list(0), list(0), []api.Int{longest}, list(5), nil, api.ErrNone},
+		{list(0), list(0), []api.Int{other}, list(2), []api.Int{longest}, []api.Int{longest}, api.OK},
+		{list(0), list(0), []api.Int{other}, list(-2), []api.Int{longest}, []api.Int{other}, api.OK},
+		{list(0), list(0), []api.Int{other}, list(4), []api.Int{longest}, nil, api.ErrNone},
+		{list(0), list(0), []api.Int{other}, list(1), []api.Int{longest}, nil, api.ErrSize},
+		{list(1, 1), list(0), list(0, 0), list(1, -1), []api.Int{longest, other}, []api.Int{longest}, api.OK},
+		{list(1, 1), list(0), list(0, 0), list(1, -1), []api.Int{longest, longest}, nil, api.ErrArg},
+		{list(1, 1), list(1), []api.Int{longest, calc.Negative(c.Sub(longest, large.Of(1)))}, list(-1, 1), list(1, 0), []api.Int{c.Sub(longest, large.Of(1))}, api.OK},
+	} {
+		for _, signs := range [][2]bool{{false, false}, {false, true}, {true, false}, {true, true}} {
+			turn, basis := signs[0], signs[1]
+			s := api.Lattice{Solvable: true, X: turned(l.x, turn), Basis: [][]api.Int{turned(l.basis, basis)}}
+			m, e := Express([][]api.Int{l.a}, turned(l.b, turn), s, turned(l.point, turn))
+			if e != l.e || len(m) != len(l.want) || len(m) > 0 && !calc.Equal(m[0], turned(l.want, turn != basis)[0]) {
+				t.Error(large.Bits(l.x[0]), large.Bits(l.basis[0]), signs, e)
+			}
+		}
+	}
+	if c.Err != api.OK {
+		t.Error(c.Err)
+	}
+}
+
 func TestInvalid(t *testing.T) {
 	good := [][]api.Int{list(1, 2)}
 	wide := [][]api.Int{make([]api.Int, 9)}
