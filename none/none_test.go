@@ -214,8 +214,9 @@ func TestZero(t *testing.T) {
 	}{
 		{"x0-999999", 1, 999999, api.OK}, {"x0-999999", 1, 999998, api.ErrNone}, {"x0", 1, 1000000, api.ErrArg}, {"x0", 1, math.MaxInt, api.ErrArg}, {"x0", 1, -1, api.ErrArg},
 		{"x0*x1-998001", 2, 999, api.OK}, {"x0", 2, 1000, api.ErrArg}, {"0", 0, math.MaxInt, api.OK}, {"7", 0, math.MaxInt, api.ErrNone}, {"x31", 32, 0, api.OK}, {"x0", 20, 1, api.ErrArg}, {"x0-1", 19, 1, api.OK},
-		// Values that are 0 modulo a prime of the program.
-		{"2147483647*x0+2147483647", 1, 50, api.ErrNone}, {"x0-2147483647", 1, 50, api.ErrNone},
+		// Values that are 0 modulo numbers of the program.
+		{"2147483647*x0+2147483647", 1, 50, api.ErrNone}, {"x0-2147483647", 1, 50, api.ErrNone}, {"2147483647*x0+2147483647", 1, 999999, api.ErrNone},
+		{"4611686011984936962*x0+4611686011984936962", 1, 50, api.ErrNone}, {"4611686011984936962*x0-4611686011984936962", 1, 50, api.OK},
 	} {
 		xs, e := Zero(parsed(t, l.p, l.vars), l.most)
 		if e != l.e || e == api.OK && len(xs) != l.vars || e != api.OK && len(xs) > 0 {
@@ -224,7 +225,7 @@ func TestZero(t *testing.T) {
 	}
 }
 
-// Values are too large to be numbers, or 0 modulo a prime of the program.
+// Values are too large to be numbers, or 0 modulo a number of the program.
 func TestZeroOfLargeValues(t *testing.T) {
 	for _, l := range []struct {
 		more int

@@ -3,9 +3,11 @@ package relate
 import (
 	"math/rand"
 	"reflect"
+	"slices"
 	"testing"
 
 	"arithmancy/api"
+	"arithmancy/calc"
 	"arithmancy/large"
 	"arithmancy/poly"
 )
@@ -311,17 +313,53 @@ func TestTooLarge(t *testing.T) {
 			t.Error(e)
 		}
 	}
-	// The difference of the sides is too large, but it is no value of a polynomial.
-	most, _ := large.Parse("-1")
-	most, _ = large.Shift(most, 32*api.MaxWords-1)
-	far := atom(t, api.FMod, 1, "x0", "0", "2")
-	far.B, _ = poly.Const(1, most)
-	half, _ := large.Shift(large.Of(1), 32*api.MaxWords-1)
-	if is, e := Holds(far, []api.Int{half}); e != api.OK || !is {
-		t.Error(is, e)
-	}
-	if _, _, e := Witness(far, []api.Int{half}); e != api.ErrSize {
-		t.Error(e)
+}
+
+// Further numbers are found if they are valid, also if something in between is not.
+func TestLongest(t *testing.T) {
+	var c calc.Calc
+	half := c.Power(large.Of(2), 32*api.MaxWords-1)
+	most := c.Add(half, c.Sub(half, large.Of(1)))
+	root := c.Power(large.Of(2), 16*api.MaxWords)
+	for _, l := range []struct {
+		kind  int
+		texts []string
+		x, y  api.Int
+		want  []api.Int
+		is    bool
+		e     api.Errno
+	}{
+		// The square of the difference is 2^131072.
+		{api.FNe, []string{"x0", "x1"}, root, api.Int{}, []api.Int{most}, true, api.OK},
+		{api.FNe, []string{"x0", "x1"}, api.Int{}, root, []api.Int{most}, true, api.OK},
+		{api.FNe, []string{"x0", "x1"}, c.Add(root, large.Of(1)), api.Int{}, nil, true, api.ErrSize},
+		{api.FNe, []string{"x0", "-x1"}, most, most, nil, true, api.ErrSize},
+		{api.FNe, []string{"x0", "x1"}, most, most, nil, false, api.OK},
+		{api.FLe, []string{"x0", "-x1"}, most, most, nil, false, api.OK},
+		{api.FLe, []string{"-x0", "x1"}, most, large.Of(1), nil, true, api.ErrSize},
+		{api.FLe, []string{"x0", "x1"}, api.Int{}, most, []api.Int{most}, true, api.OK},
+		// The difference is 2^131072.
+		{api.FLt, []string{"-x0", "x1"}, large.Of(1), most, []api.Int{most}, true, api.OK},
+		{api.FLt, []string{"-x0", "x1"}, most, large.Of(1), []api.Int{most}, true, api.OK},
+		{api.FLt, []string{"-x0", "x1"}, most, large.Of(2), nil, true, api.ErrSize},
+		{api.FLt, []string{"x0", "-x1"}, most, most, nil, false, api.OK},
+		{api.FMod, []string{"x0", "-x1", "2"}, half, half, []api.Int{half, {}}, true, api.OK},
+		{api.FMod, []string{"x0", "-x1", "2"}, most, most, []api.Int{most, {}}, true, api.OK},
+		{api.FMod, []string{"x0", "-x1", "-2"}, most, most, []api.Int{{}, most}, true, api.OK},
+		{api.FMod, []string{"-x0", "x1", "2"}, most, most, []api.Int{{}, most}, true, api.OK},
+		{api.FMod, []string{"x0", "-x1", "1"}, most, most, nil, true, api.ErrSize},
+		{api.FMod, []string{"x0", "-x1", "2"}, most, c.Sub(most, large.Of(1)), nil, false, api.OK},
+		{api.FMod, []string{"x0", "x1", "0"}, most, most, []api.Int{{}, {}}, true, api.OK},
+		{api.FMod, []string{"x0", "-x1", "0"}, most, most, nil, false, api.OK},
+	} {
+		f, xs := atom(t, l.kind, 2, l.texts...), []api.Int{l.x, l.y}
+		if is, e := Holds(f, xs); is != l.is || e != api.OK {
+			t.Error(l.kind, l.texts, is, e)
+		}
+		zs, found, e := Witness(f, xs)
+		if e != l.e || found != (l.is && e == api.OK) || !slices.EqualFunc(zs, l.want, calc.Equal) {
+			t.Error(l.kind, l.texts, found, len(zs), e)
+		}
 	}
 }
 

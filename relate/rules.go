@@ -64,7 +64,8 @@ func lessRule() rule {
 			return k.Sub(k.Add(p[0], z[0], k.Int(1)), p[1])
 		},
 		witness: func(c *calc.Calc, v [3]api.Int) []api.Int {
-			return []api.Int{c.Sub(c.Sub(v[1], v[0]), large.Of(1))}
+			// In this order, nothing in between is too large if the result is not.
+			return []api.Int{c.Sub(c.Sub(v[1], large.Of(1)), v[0])}
 		},
 	}
 }
@@ -79,8 +80,9 @@ func otherRule() rule {
 			return k.Sub(k.Mul(d, d), k.Add(z[0], k.Int(1)))
 		},
 		witness: func(c *calc.Calc, v [3]api.Int) []api.Int {
+			// The square of d alone might be too large.
 			d := c.Sub(v[0], v[1])
-			return []api.Int{c.Sub(c.Mul(d, d), large.Of(1))}
+			return []api.Int{c.Mul(c.Sub(d, large.Of(1)), c.Add(d, large.Of(1)))}
 		},
 	}
 }
@@ -108,7 +110,8 @@ func moduloRule() rule {
 			return k.Sub(k.Mul(p[2], k.Sub(z[0], z[1])), k.Sub(p[0], p[1]))
 		},
 		witness: func(c *calc.Calc, v [3]api.Int) []api.Int {
-			return parts(quotient(c, c.Sub(v[0], v[1]), v[2]))
+			// The rests are the same. (The difference itself might be too large.)
+			return parts(c.Sub(quotient(c, v[0], v[2]), quotient(c, v[1], v[2])))
 		},
 	}
 }
@@ -170,7 +173,7 @@ func same(a, b, m api.Int) bool {
 	return e == api.OK && f == api.OK && calc.Equal(r, s)
 }
 
-// quotient returns a divided by b, which divides it.
+// quotient returns a divided by b, rounded so that the rest is not negative; 0 if b is 0.
 func quotient(c *calc.Calc, a, b api.Int) api.Int {
 	if calc.IsZero(b) {
 		return api.Int{}
