@@ -280,6 +280,27 @@ func TestZeroOfLongestCoefficients(t *testing.T) {
 	}
 }
 
+// P6.3: many terms, whose coefficients all are long and have many divisors, are looked at in time.
+func TestZeroOfManyDivisors(t *testing.T) {
+	product := large.Of(1)
+	for m := math.MaxInt32; large.Bits(product) < 32*(api.MaxWords-1); m-- {
+		product, _ = large.Mul(product, large.Of(m))
+	}
+	p := api.Poly{Vars: 2}
+	for degree := 53; degree > 0; degree-- {
+		for i := degree; i >= 0; i-- {
+			p.Terms = append(p.Terms, api.Term{Coef: product, Exps: []int{i, degree - i}})
+		}
+	}
+	if xs, e := Zero(p, 0); e != api.OK || !reflect.DeepEqual(xs, []api.Int{{}, {}}) {
+		t.Error(xs, e)
+	}
+	p.Terms = append(p.Terms, api.Term{Coef: product, Exps: []int{0, 0}})
+	if xs, e := Zero(p, 0); e != api.ErrNone || len(xs) > 0 {
+		t.Error(xs, e)
+	}
+}
+
 // P6.4: rests.
 func TestRests(t *testing.T) {
 	r := rand.New(rand.NewSource(4))
