@@ -66,20 +66,26 @@ func multiples(s api.Lattice, x []api.Int) ([]api.Int, api.Errno) {
 		return nil, api.ErrNone
 	}
 	list := make([]api.Int, len(s.Basis))
+	e := api.OK
 	for i, j := range m.pivots {
-		rest := c.Difference(c.Dot(m.right(i), x), c.Dot(m.right(i), s.X))
+		// Each row by itself: one whose multiple is too large does not hide that there is none in another one.
+		row := &calc.Calc{}
+		rest := row.Difference(row.Dot(m.right(i), x), row.Dot(m.right(i), s.X))
 		ok := false
 		if j < 0 {
-			ok = c.IsZeroWide(rest)
+			ok = row.IsZeroWide(rest)
 		} else {
-			list[j], ok = c.Divided(rest, m.d)
+			list[j], ok = row.Divided(rest, m.d)
 		}
-		if c.Err != api.OK {
-			return nil, c.Err
-		}
-		if !ok {
+		switch {
+		case row.Err != api.OK:
+			e = row.Err
+		case !ok:
 			return nil, api.ErrNone
 		}
+	}
+	if e != api.OK {
+		return nil, e
 	}
 	return list, api.OK
 }

@@ -406,6 +406,32 @@ func TestExpressLongest(t *testing.T) {
 	}
 }
 
+// One multiple is too large, another one is no integer, or the point is not in the plane of the basis: ErrNone comes first (R2).
+func TestExpressNoneBeforeSize(t *testing.T) {
+	c := &calc.Calc{}
+	longest := c.Add(power(131071), c.Sub(power(131071), large.Of(1)))
+	other := calc.Negative(longest)
+	two := [][]api.Int{list(1, 0, 0), list(0, 2, 0)}
+	turn := [][]api.Int{list(0, 0, 2), list(0, 1, 0)}
+	for _, l := range []struct {
+		x, point []api.Int
+		basis    [][]api.Int
+		e        api.Errno
+	}{
+		{[]api.Int{other, {}, {}}, []api.Int{longest, large.Of(1), {}}, two, api.ErrNone},
+		{[]api.Int{other, {}, {}}, []api.Int{longest, {}, large.Of(1)}, two, api.ErrNone},
+		{[]api.Int{other, {}, {}}, []api.Int{longest, large.Of(2), {}}, two, api.ErrSize},
+		{[]api.Int{{}, other, {}}, []api.Int{{}, longest, large.Of(1)}, turn, api.ErrNone},
+		{[]api.Int{{}, other, {}}, []api.Int{large.Of(1), longest, {}}, turn, api.ErrNone},
+		{[]api.Int{{}, other, {}}, []api.Int{{}, longest, large.Of(4)}, turn, api.ErrSize},
+	} {
+		s := api.Lattice{Solvable: true, X: l.x, Basis: l.basis}
+		if m, e := Express([][]api.Int{list(0, 0, 0)}, list(0), s, l.point); e != l.e || len(m) > 0 {
+			t.Error(len(m), e, l.e)
+		}
+	}
+}
+
 func TestInvalid(t *testing.T) {
 	good := [][]api.Int{list(1, 2)}
 	wide := [][]api.Int{make([]api.Int, 9)}
